@@ -1,0 +1,1 @@
+"""Xorturns: sets of bit masks turned by exclusive or."""
