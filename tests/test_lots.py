@@ -1,38 +1,11 @@
 import inspect
 import unittest
-from copy import deepcopy
 
+from tests.cases import LotCase
 from tests.samples import WIDTHS, lots_of, odd_values
 from xorturns import lots
 from xorturns.errors import NoLots, NoMask, OtherWidth
 from xorturns.lots import is_lot, left_over, lot_error, rest_of, shared, turned, united
-
-
-class LotCase(unittest.TestCase):
-    """Checks that hold for every call: the same result twice, and no argument changed."""
-
-    def called(self, function, *args):
-        before = deepcopy(args)
-        result = function(*args)
-        self.assertEqual(repr(args), repr(before))
-        self.assertEqual(repr(function(*deepcopy(args))), repr(result))
-        return result
-
-    def check_lot(self, result, width, masks):
-        self.assertIs(type(result), tuple)
-        self.assertIs(type(result[1]), tuple)
-        self.assertEqual({type(x) for x in (result[0], *result[1])}, {int})
-        self.assertEqual(result, (width, tuple(sorted(masks))))
-
-    def check_raises(self, wanted, field, worth, function, *args):
-        before = repr(args)
-        for again in range(2):
-            with self.assertRaises(wanted) as caught:
-                function(*args)
-            self.assertIs(type(caught.exception), wanted)
-            if field is not None:
-                self.assertIs(getattr(caught.exception, field), worth)
-        self.assertEqual(repr(args), before)
 
 
 class InterfaceTest(unittest.TestCase):
@@ -213,12 +186,7 @@ class RestTest(LotCase):
                     self.assertEqual(left_over(full, lot), rest_of(lot))
 
     def test_left_over_of_other_widths(self):
-        for first in WIDTHS:
-            for second in WIDTHS:
-                for masks in ((), (0,), (0, 1)):
-                    if first != second:
-                        with self.subTest(first=first, second=second, masks=masks):
-                            self.check_raises(OtherWidth, "index", 1, left_over, (first, masks), (second, masks))
+        self.check_other_widths(left_over)
 
 
 class TogetherTest(LotCase):
