@@ -3,7 +3,26 @@
 import unittest
 
 from tests.samples import WIDTHS
+from xorturns.boards import ApartBoard, Board, LoggedApartBoard, LoggedBoard
 from xorturns.errors import OtherWidth
+
+KINDS = (Board, ApartBoard, LoggedBoard, LoggedApartBoard)
+APART = (ApartBoard, LoggedApartBoard)
+LOGGED = (LoggedBoard, LoggedApartBoard)
+
+
+def told(board):
+    """All that a board tells but its log."""
+    return repr((
+        type(board).__name__, board.lot, board.size, board.version, board.mark, board.kept, board.edits(),
+        list(board.walk()), [board.lot_at(version) for version in range(board.version + 1)], board.as_set().lot,
+        [board[index] for index in range(board.size)], [x for x in range(-1, 65) if x in board], str(board),
+        len(board)))
+
+
+def told_with_log(board):
+    """All that a board tells, its log too if it has one."""
+    return told(board), repr(board.log) if isinstance(board, LoggedBoard) else None
 
 
 class LotCase(unittest.TestCase):
@@ -48,3 +67,19 @@ class LotCase(unittest.TestCase):
                         with self.subTest(function=function.__name__, first=first, second=second, rest=rest):
                             args = (first, masks), (second, masks), *rest
                             self.check_raises(OtherWidth, "index", 1, function, *args)
+
+
+class BoardCase(LotCase):
+    """Checks of calls that fail."""
+
+    def check_refused(self, board, wanted, fields, function, *args, **more):
+        """The call raises this error with these very fields, and the board tells what it told before."""
+        before, passed = told_with_log(board), repr((args, more))
+        for again in range(2):
+            with self.assertRaises(Exception) as caught:
+                function(*args, **more)
+            self.assertIs(type(caught.exception), wanted)
+            for name, worth in fields.items():
+                self.assertIs(getattr(caught.exception, name), worth)
+            self.assertEqual(told_with_log(board), before)
+        self.assertEqual(repr((args, more)), passed)

@@ -1,12 +1,15 @@
-"""Point [2] of the document, (a) to (g), as far as it speaks of functions."""
+"""Point [2] of the document, (a) to (h)."""
 
 import unittest
 from itertools import product
 from random import Random
 
+from tests.cases import KINDS
 from tests.samples import WIDTHS, drawn_lots, full_lot, lots_of, odd_values, pairs_of_lots
+from xorturns.boards import Board
 from xorturns.counts import lot_with, pair_counts, sign, signed_counts
 from xorturns.lots import left_over, turned
+from xorturns.masksets import MaskSet
 from xorturns.sums import find_bend, greatest_addend, solution_holds, solve, sum_of
 from xorturns.turns import (
     base_of, count_turned, each_turned, judge, judge_holds, keepers, least_turned, turned_at, turns_between)
@@ -168,6 +171,92 @@ class GuaranteesTest(unittest.TestCase):
                 if solution_holds(one, other, value):
                     right = value[1] in solved if value[0] == "addend" else len(solved) == 0
                     self.assertTrue(right, (one, other, value))
+
+
+class ObjectsTest(unittest.TestCase):
+
+    def test_a_to_c_for_sets(self):
+        for width in WIDTHS:
+            for one, other in pairs_of_lots(width)[::2]:
+                first, second = MaskSet(one), MaskSet(other)
+                with self.subTest(one=one, other=other):
+                    self.assertEqual({x ^ y for x in first.keepers for y in first.keepers}, set(first.keepers))
+                    turns = [mask for mask in range(2 ** width) if first ^ mask == second]
+                    self.assertEqual(judge(one, other)[0] == "turn", len(turns) > 0)
+                    self.assertEqual(len(turns), len(first.keepers) if turns else 0)
+                    signed = signed_counts(one)
+                    pairs = [sum(signed[u] ** 2 * sign(u, mask) for u in range(2 ** width)) for mask in range(2 ** width)]
+                    self.assertEqual([first(mask) * 2 ** width for mask in range(2 ** width)], pairs)
+
+    def test_d_to_f_for_sets(self):
+        for width in WIDTHS:
+            for one, other in pairs_of_lots(width)[::2]:
+                first, second = MaskSet(one), MaskSet(other)
+                with self.subTest(one=one, other=other):
+                    addend = first.addend(second)
+                    self.assertTrue((first + addend).within(second))
+                    self.assertEqual(solve(one, other)[0] == "addend", first + addend == second)
+                    if first:
+                        self.assertEqual(find_bend(one) is None, len(first) == len(first.keepers))
+                        self.assertEqual(MaskSet.of_wide(patterns_of(one)[:6]).masks, first.masks[:6])
+
+    def drawn_boards(self, width, lot):
+        """Boards of all kinds with this lot that come to it by other edits."""
+        source = Random(repr(lot))
+        boards = []
+        for kind in KINDS:
+            mask = source.randrange(2 ** width)
+            boards.append(kind(lot))
+            boards.append(kind(turned(lot, mask)))
+            boards[-1].turn(mask)
+            if lot[1]:
+                boards.append(kind((width, lot[1][1:])))
+                boards[-1].add(lot[1][0])
+                boards.append(kind(lot))
+                boards[-1].run([("drop", lot[1][-1]), ("turn", mask), ("turn", mask), ("add", lot[1][-1])])
+            boards.append(boards[-1].copy())
+            boards[-1].turn(mask)
+            boards[-1].undo()
+        boards.append(Board((width, tuple(x for x in range(2 ** width) if x not in lot[1]))))
+        boards[-1].flip()
+        return boards
+
+    def test_h_only_the_current_lot_counts(self):
+        for width in WIDTHS:
+            even = tuple(x for x in range(2 ** width) if bin(x).count("1") % 2 == 0)
+            for masks in (even, even[:1], even[1::3], ()):
+                lot = (width, masks)
+                boards = self.drawn_boards(width, lot)
+                self.assertEqual({(board.lot, board.size) for board in boards}, {(lot, len(masks))})
+                for mask in (*range(2 ** width), None):
+                    wanted = None if mask is None else mask in keepers(lot)
+                    self.assertEqual([board.look(mask) for board in boards], [wanted] * len(boards))
+                    self.assertEqual([board.kept for board in boards], [wanted] * len(boards))
+                other = Board(turned((width, (*masks, 2 ** width - 1) if width % 2 else masks[1:]), 0))
+                for board in boards:
+                    self.assertEqual([board == second for second in boards], [True] * len(boards))
+                    self.assertIs(board == other, board.lot == other.lot)
+
+    def test_h_undoing_restores_the_earlier_lots(self):
+        for width in WIDTHS:
+            for lot in lots_to_check(width)[:12]:
+                for kind in KINDS:
+                    source = Random(repr(lot))
+                    board = kind((width, lot[1][:1]))
+                    lots = [board.lot]
+                    while board.version < 60:
+                        mask = source.randrange(2 ** width)
+                        edit = source.choice((("turn", mask), ("drop" if mask in board else "add", mask), ("flip",)))
+                        try:
+                            board.run([edit])
+                        except ValueError:
+                            board.run([("turn", mask)])
+                        lots.append(board.lot)
+                    self.assertEqual([lot for version, lot in board.walk()], lots)
+                    while lots:
+                        self.assertEqual(board.lot, lots.pop())
+                        if lots:
+                            self.assertEqual(board.undo(), len(lots) - 1)
 
 
 if __name__ == "__main__":

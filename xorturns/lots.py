@@ -1,7 +1,7 @@
 """Lots: tuples (width, masks) with the ascending tuple of some masks of one width."""
 
 from xorturns.bounds import MAX_WIDTH
-from xorturns.errors import NoLots, NoMask, OtherWidth
+from xorturns.errors import BadLot, NoLots, NoMask, OtherWidth
 
 
 def is_number(value):
@@ -34,6 +34,13 @@ def lot_error(value):
     if not isinstance(masks, tuple):
         return (None, "masks")
     return mask_error(width, masks)
+
+
+def check_lot(value):
+    """Raise BadLot if the value is not a lot."""
+    error = lot_error(value)
+    if error is not None:
+        raise BadLot(error)
 
 
 def mask_error(width, masks):
